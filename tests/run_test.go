@@ -396,6 +396,12 @@ func TestNobodyIsLeftBehindARun(t *testing.T) {
 		impl.RunStep(p, run{State: deep}, k)
 		impl.RunStep(p, run{State: 9}, k)
 	}
+	mustBeGone(t, was)
+}
+
+// mustBeGone asks that no more goroutines are there than there were, or soon are not.
+func mustBeGone(t *testing.T, was int) {
+	t.Helper()
 	for range 200 {
 		if runtime.NumGoroutine() <= was {
 			return
